@@ -1,0 +1,77 @@
+"""The interface's names and arguments, and what can be seen of the language's rules from the files alone."""
+
+import ast
+import importlib
+import inspect
+import pathlib
+import unittest
+
+PACKAGE = pathlib.Path(__file__).resolve().parent.parent / "fewtests"
+
+LIBRARY = ("__future__", "collections", "heapq", "itertools", "math")
+
+INTERFACE = {
+    "fewtests.writers": {
+        "require_writer": ["value"],
+        "is_small": ["writer"],
+        "joined": ["recipes"],
+    },
+    "fewtests.runs": {
+        "behind": ["writer", "word"],
+        "text_for": ["writer", "word"],
+        "words_in_order": ["kinds", "many"],
+        "differ": ["first", "second", "word"],
+    },
+}
+
+
+class InterfaceTest(unittest.TestCase):
+    def test_names_and_arguments(self):
+        for module, functions in INTERFACE.items():
+            for name, arguments in functions.items():
+                with self.subTest(module=module, name=name):
+                    found = getattr(importlib.import_module(module), name)
+                    self.assertEqual(found.__module__, module)
+                    self.assertEqual(list(inspect.signature(found).parameters), arguments)
+
+
+class FilesTest(unittest.TestCase):
+    def for_each(self, check):
+        for path in sorted(PACKAGE.rglob("*.py")):
+            with self.subTest(file=path.name):
+                check(path.read_bytes().decode("ascii"))
+
+    def test_nothing_but_sources(self):
+        found = [path for path in PACKAGE.rglob("*") if path.is_file() and "__pycache__" not in path.parts]
+        self.assertEqual([path for path in found if path.suffix != ".py"], [])
+        self.assertIn(PACKAGE / "__init__.py", found)
+
+    def test_signs_and_sizes(self):
+        def check(text):
+            self.assertFalse([sign for sign in text if sign != "\n" and not " " <= sign <= "~"])
+            lines = text.split("\n")
+            self.assertLessEqual(len(lines) - 1, 399)
+            self.assertLessEqual(max(len(line) for line in lines), 120)
+
+        self.for_each(check)
+
+    def test_lengths_of_functions(self):
+        def check(text):
+            for node in ast.walk(ast.parse(text)):
+                if isinstance(node, ast.FunctionDef):
+                    self.assertLessEqual(node.end_lineno - node.lineno + 1, 40, node.name)
+
+        self.for_each(check)
+
+    def test_imports_come_from_the_package_or_the_few_that_are_allowed(self):
+        def check(text):
+            for node in ast.walk(ast.parse(text)):
+                self.assertNotIsInstance(node, ast.Import)
+                if isinstance(node, ast.ImportFrom) and node.module not in LIBRARY:
+                    self.assertTrue(node.module.startswith("fewtests."), node.module)
+
+        self.for_each(check)
+
+
+if __name__ == "__main__":
+    unittest.main()
