@@ -1,6 +1,7 @@
 """The interface's names and arguments, and what can be seen of the language's rules from the files alone."""
 
 import ast
+import doctest
 import importlib
 import inspect
 import pathlib
@@ -22,6 +23,38 @@ INTERFACE = {
         "words_in_order": ["kinds", "many"],
         "differ": ["first", "second", "word"],
     },
+    "fewtests.shadows": {
+        "number_of": ["text"],
+        "size_of": ["text"],
+        "text_of": ["number"],
+        "shadow": ["situation"],
+        "pair_shadow": ["first", "second", "word"],
+    },
+    "fewtests.sums": {
+        "is_sum": ["rows", "row"],
+        "is_fine_sum": ["rows", "row"],
+        "factors": ["rows", "row"],
+        "fine_factors": ["rows", "row"],
+        "apart": ["rows", "row"],
+        "fine_apart": ["rows", "row"],
+        "basis": ["rows"],
+        "dimension": ["rows"],
+    },
+    "fewtests.suites": {
+        "is_closed": ["first", "second", "tests"],
+        "is_closed_within": ["first", "second", "tests"],
+        "is_fine": ["writer", "word", "tests"],
+        "closed_tests": ["first", "second"],
+        "fewest_tests": ["first", "second"],
+        "uncovered": ["first", "second", "words"],
+        "lacking": ["first", "second", "words"],
+    },
+    "fewtests.parting": {
+        "first_difference": ["first", "second"],
+        "alike": ["first", "second"],
+        "within": ["first", "second"],
+        "first_outside": ["first", "second"],
+    },
 }
 
 
@@ -33,6 +66,13 @@ class InterfaceTest(unittest.TestCase):
                     found = getattr(importlib.import_module(module), name)
                     self.assertEqual(found.__module__, module)
                     self.assertEqual(list(inspect.signature(found).parameters), arguments)
+
+
+class ReadmeTest(unittest.TestCase):
+    def test_examples(self):
+        found = doctest.testfile(str(PACKAGE.parent / "README.md"), module_relative=False)
+        self.assertGreater(found.attempted, 5)
+        self.assertEqual(found.failed, 0)
 
 
 class FilesTest(unittest.TestCase):

@@ -1,0 +1,111 @@
+"""Fine spans: all the rows that are sums of some rows with fractions whose denominators 29 does not divide."""
+
+from math import gcd
+
+from fewtests.residues import inverse_of
+from fewtests.shadows import BASE, power_of
+from fewtests.spans import held, no_span, span_of
+
+FIRST_DIGITS = 8
+
+
+class FineSpan:
+    """The fine sums of independent rows, the span being that of these rows.
+
+    The steps are (column, power, row): a row modulo the modulus with this power of 29 at the column; there the rows
+    that come later have 0, and no entry of it or of them is divisible by fewer factors 29 than the power.
+    """
+
+    def __init__(self, span, rows, modulus, steps):
+        self.span = span
+        self.rows = rows
+        self.modulus = modulus
+        self.steps = steps
+
+
+def no_fine_span():
+    """Returns the fine span of no rows."""
+    return FineSpan(no_span(), (), BASE, ())
+
+
+def fine_span_of(rows):
+    """Returns the fine span of the rows; its rows are some of these."""
+    span = span_of(rows)
+    digits = FIRST_DIGITS
+    modulus = power_of(BASE, digits)
+    found = _pivoted(rows, modulus)
+    # A pivot that the modulus divides looks like 0: only with all of them the answer is exact.
+    while len(found) < len(span.rows):
+        digits = digits * 2
+        modulus = power_of(BASE, digits)
+        found = _pivoted(rows, modulus)
+    chosen = tuple([rows[index] for index, _ in found])
+    return FineSpan(span, chosen, modulus, tuple([step for _, step in found]))
+
+
+def fine_taken(fine, row):
+    """Returns a pair: whether the row is no fine sum, and the fine span of the rows and this one."""
+    same = fine_held(fine, row)
+    if same is not None:
+        return False, same
+    return True, fine_span_of(fine.rows + (row,))
+
+
+def fine_held(fine, row):
+    """Returns the fine span if the row is a fine sum of its rows, with what was needed to tell; else None."""
+    if parts_of(fine, row) is None:
+        return None
+    # Modulo a power of 29 it is a fine sum: then it is one if it is a sum at all.
+    span = held(fine.span, row)
+    if span is None:
+        return None
+    return FineSpan(span, fine.rows, fine.modulus, fine.steps)
+
+
+def parts_of(fine, row):
+    """Returns how many times the row has each step, modulo 29 at least, or None if it is surely no fine sum."""
+    rest = [value % fine.modulus for value in row]
+    parts = []
+    for column, power, step in fine.steps:
+        if rest[column] % power != 0:
+            return None
+        times = rest[column] // power
+        rest = [(value - times * other) % fine.modulus for value, other in zip(rest, step)]
+        parts.append(times)
+    if any(rest):
+        return None
+    return parts
+
+
+def _pivoted(rows, modulus):
+    # Pairs (index, step), the index being that of the row that the step was made from.
+    left = [(index, [value % modulus for value in row]) for index, row in enumerate(rows)]
+    found = []
+    best = _least_divisible(left, modulus)
+    while best is not None:
+        power, at, column = best
+        index, row = left[at]
+        times = inverse_of(row[column] // power, modulus)
+        step = tuple([value * times % modulus for value in row])
+        found.append((index, (column, power, step)))
+        left = [(other, _cleared(values, column, power, step, modulus)) for other, values in left if other != index]
+        best = _least_divisible(left, modulus)
+    return found
+
+
+def _least_divisible(left, modulus):
+    best = None
+    for at, (_, row) in enumerate(left):
+        for column, value in enumerate(row):
+            if value != 0:
+                power = gcd(value, modulus)
+                if best is None or power < best[0]:
+                    best = (power, at, column)
+                if power == 1:
+                    return best
+    return best
+
+
+def _cleared(values, column, power, step, modulus):
+    times = values[column] // power
+    return [(value - times * other) % modulus for value, other in zip(values, step)]

@@ -1,0 +1,36 @@
+"""Parting: the first word at which two small writers differ."""
+
+from fewtests.levels import first_level, next_level
+from fewtests.walks import end_number, is_parting
+
+
+def first_difference(first, second):
+    """Returns the first word at which the two writers differ, or None."""
+    level, spans = first_level(first, second)
+    while level:
+        for word, joint in level:
+            if is_parting(first, second, joint):
+                return word
+        level, spans = next_level(first, second, False, level, spans)
+    return None
+
+
+def alike(first, second):
+    """Tells whether the two writers differ at no word."""
+    return first_difference(first, second) is None
+
+
+def within(first, second):
+    """Tells whether the two writers differ at no word that the first one writes."""
+    return first_outside(first, second) is None
+
+
+def first_outside(first, second):
+    """Returns the first word that the first one writes and at which they differ, or None."""
+    level, spans = first_level(first, second)
+    while level:
+        for word, joint in level:
+            if end_number(first, joint[0]) is not None and is_parting(first, second, joint):
+                return word
+        level, spans = next_level(first, second, True, level, spans)
+    return None
