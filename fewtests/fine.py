@@ -25,22 +25,12 @@ class FineSpan:
 
 def no_fine_span():
     """Returns the fine span of no rows."""
-    return FineSpan(no_span(), (), BASE, ())
+    return FineSpan(no_span(), (), power_of(BASE, FIRST_DIGITS), ())
 
 
 def fine_span_of(rows):
     """Returns the fine span of the rows; its rows are some of these."""
-    span = span_of(rows)
-    digits = FIRST_DIGITS
-    modulus = power_of(BASE, digits)
-    found = _pivoted(rows, modulus)
-    # A pivot that the modulus divides looks like 0: only with all of them the answer is exact.
-    while len(found) < len(span.rows):
-        digits = digits * 2
-        modulus = power_of(BASE, digits)
-        found = _pivoted(rows, modulus)
-    chosen = tuple([rows[index] for index, _ in found])
-    return FineSpan(span, chosen, modulus, tuple([step for _, step in found]))
+    return _fine_span(rows, power_of(BASE, FIRST_DIGITS))
 
 
 def fine_taken(fine, row):
@@ -48,12 +38,12 @@ def fine_taken(fine, row):
     same = fine_held(fine, row)
     if same is not None:
         return False, same
-    return True, fine_span_of(fine.rows + (row,))
+    return True, _fine_span(fine.rows + (row,), fine.modulus)
 
 
 def fine_held(fine, row):
     """Returns the fine span if the row is a fine sum of its rows, with what was needed to tell; else None."""
-    if parts_of(fine, row) is None:
+    if parts_of(fine.steps, fine.modulus, row) is None:
         return None
     # Modulo a power of 29 it is a fine sum: then it is one if it is a sum at all.
     span = held(fine.span, row)
@@ -62,23 +52,38 @@ def fine_held(fine, row):
     return FineSpan(span, fine.rows, fine.modulus, fine.steps)
 
 
-def parts_of(fine, row):
+def parts_of(steps, modulus, row):
     """Returns how many times the row has each step, modulo 29 at least, or None if it is surely no fine sum."""
-    rest = [value % fine.modulus for value in row]
+    rest = [value % modulus for value in row]
     parts = []
-    for column, power, step in fine.steps:
+    for column, power, step in steps:
         if rest[column] % power != 0:
             return None
         times = rest[column] // power
-        rest = [(value - times * other) % fine.modulus for value, other in zip(rest, step)]
+        rest = [(value - times * other) % modulus for value, other in zip(rest, step)]
         parts.append(times)
     if any(rest):
         return None
     return parts
 
 
-def _pivoted(rows, modulus):
-    # Pairs (index, step), the index being that of the row that the step was made from.
+def _fine_span(rows, first_modulus):
+    span = span_of(rows)
+    modulus = first_modulus
+    found = pivots_of(rows, modulus)
+    # A pivot that the modulus divides looks like 0: only with all of them the answer is exact.
+    while len(found) < len(span.rows):
+        modulus = modulus * modulus
+        found = pivots_of(rows, modulus)
+    chosen = tuple([rows[index] for index, _ in found])
+    return FineSpan(span, chosen, modulus, tuple([step for _, step in found]))
+
+
+def pivots_of(rows, modulus):
+    """Returns a list of pairs (index, step) for the rows modulo a power of 29.
+
+    The step is one as in a FineSpan; it was made from the row at the index.
+    """
     left = [(index, [value % modulus for value in row]) for index, row in enumerate(rows)]
     found = []
     best = _least_divisible(left, modulus)

@@ -3,27 +3,12 @@
 
 def behind(writer, word):
     """Returns the situation behind the word, or None if the word is refused."""
-    texts, rules, _ = writer
-    state = 0
-    for kind in word:
-        entry = rules[state][kind]
-        if entry is None:
-            return None
-        state, fills = entry
-        texts = _filled(fills, texts)
-    return state, texts
+    return behind_from(writer, (0, writer[0]), word)
 
 
 def text_for(writer, word):
     """Returns the text of the word, or None if it is not written."""
-    situation = behind(writer, word)
-    if situation is None:
-        return None
-    state, texts = situation
-    end = writer[2][state]
-    if end is None:
-        return None
-    return _made(end, texts)
+    return text_from(writer, (0, writer[0]), word)
 
 
 def words_in_order(kinds, many):
@@ -41,6 +26,26 @@ def words_in_order(kinds, many):
 def differ(first, second, word):
     """Tells whether the two writers differ at the word."""
     return text_for(first, word) != text_for(second, word)
+
+
+def behind_from(writer, situation, word):
+    """Returns the situation when the word has been read from this one, or None if it is refused."""
+    state, texts = situation
+    for kind in word:
+        entry = writer[1][state][kind]
+        if entry is None:
+            return None
+        state, fills = entry
+        texts = _filled(fills, texts)
+    return state, texts
+
+
+def text_from(writer, situation, word):
+    """Returns the text of the word when it is read from this situation, or None if it is not written."""
+    found = behind_from(writer, situation, word)
+    if found is None or writer[2][found[0]] is None:
+        return None
+    return _made(writer[2][found[0]], found[1])
 
 
 def _filled(fills, texts):

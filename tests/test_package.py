@@ -55,6 +55,28 @@ INTERFACE = {
         "within": ["first", "second"],
         "first_outside": ["first", "second"],
     },
+    "fewtests.sure": {
+        "common_beginning": ["texts"],
+        "sure_text": ["writer", "word"],
+        "fine_tests": ["writer", "word"],
+    },
+    "fewtests.forms": {
+        "require_form": ["value"],
+        "effect": ["form", "text"],
+        "accepts": ["form", "text"],
+        "opposite": ["form"],
+        "form_fits": ["writer", "form"],
+    },
+    "fewtests.meets": {
+        "first_accepted": ["writer", "form"],
+        "all_fit": ["writer", "form"],
+        "words_for": ["writer", "text", "many"],
+        "how_many_for": ["writer", "text"],
+    },
+    "fewtests.fates": {
+        "fates": ["writer", "word"],
+        "worth": ["prices", "text"],
+    },
 }
 
 
@@ -70,7 +92,7 @@ class InterfaceTest(unittest.TestCase):
 
 class ReadmeTest(unittest.TestCase):
     def test_examples(self):
-        found = doctest.testfile(str(PACKAGE.parent / "README.md"), module_relative=False)
+        found = doctest.testfile(str(PACKAGE.parent / "README.md"), module_relative=False, verbose=False)
         self.assertGreater(found.attempted, 5)
         self.assertEqual(found.failed, 0)
 
