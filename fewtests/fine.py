@@ -25,7 +25,7 @@ class FineSpan:
 
 def no_fine_span():
     """Returns the fine span of no rows."""
-    return FineSpan(no_span(), (), power_of(BASE, FIRST_DIGITS), ())
+    return FineSpan(no_span(), (), BASE, ())
 
 
 def fine_span_of(rows):
@@ -38,7 +38,7 @@ def fine_taken(fine, row):
     same = fine_held(fine, row)
     if same is not None:
         return False, same
-    return True, _fine_span(fine.rows + (row,), fine.modulus)
+    return True, _fine_span(fine.rows + (row,), fine.modulus * power_of(BASE, FIRST_DIGITS))
 
 
 def fine_held(fine, row):
@@ -75,8 +75,10 @@ def _fine_span(rows, first_modulus):
     while len(found) < len(span.rows):
         modulus = modulus * modulus
         found = pivots_of(rows, modulus)
-    chosen = tuple([rows[index] for index, _ in found])
-    return FineSpan(span, chosen, modulus, tuple([step for _, step in found]))
+    # One factor 29 more than any pivot has is enough from now on.
+    enough = BASE * max([1] + [power for _, (_, power, _) in found])
+    steps = [(column, power, tuple([value % enough for value in row])) for _, (column, power, row) in found]
+    return FineSpan(span, tuple([rows[index] for index, _ in found]), enough, tuple(steps))
 
 
 def pivots_of(rows, modulus):

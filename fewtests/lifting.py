@@ -41,7 +41,7 @@ def _fractions_of(values, modulus):
     under = 1
     overs = []
     for value in values:
-        over, factor = _fraction_of(value * under % modulus, modulus, bound)
+        over, factor = fraction_of(value * under % modulus, modulus, bound)
         under = under * factor
         if under > bound:
             return None
@@ -49,7 +49,8 @@ def _fractions_of(values, modulus):
     return under, tuple(overs)
 
 
-def _fraction_of(value, modulus, bound):
+def fraction_of(value, modulus, bound):
+    """Returns (n, d), d from 1 on: modulo the modulus n is d times the value, and n is not above the bound."""
     # Euclid's algorithm, as far as the first remainder that is not above the bound.
     larger, smaller = modulus, value
     before, now = 0, 1
