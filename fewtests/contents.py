@@ -62,8 +62,20 @@ def fruitful(writer, text, ways):
     return found
 
 
+def counts_of(writer, text, ways):
+    """Returns a dict: how many words end as the text from each place; None if there is a place without an end."""
+    places = fruitful(writer, text, ways)
+    rows = in_rows(ways, places)
+    if len(rows) < len(places):
+        return None
+    counts = {place: 0 for place in ways}
+    for place in rows:
+        counts[place] = int(ends_as(writer, text, place)) + sum([counts[later] for later in ways[place]])
+    return counts
+
+
 def in_rows(ways, places):
-    """Returns the list of the places, each behind all those that it leads to, or None if some lead back to themselves.
+    """Returns a list of places, each behind all those that it leads to; without those that lead to a place that loops.
 
     The places are a dict; ways to others than these do not count.
     """
@@ -81,7 +93,18 @@ def in_rows(ways, places):
             if left[place] == 0:
                 found.append(place)
         done = done + 1
-    return found if len(found) == len(places) else None
+    return found
+
+
+def looping(ways, places):
+    """Returns one of the places from which a way leads back to it, or None if there is none."""
+    rows = {place: True for place in in_rows(ways, places)}
+    rest = [place for place in places if place not in rows]
+    met = {}
+    while rest and rest[0] not in met:
+        met[rest[0]] = True
+        rest = [later for later in ways[rest[0]] if later in places and later not in rows]
+    return rest[0] if rest else None
 
 
 def _made(recipe, contents, text):

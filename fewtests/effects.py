@@ -29,6 +29,26 @@ def effect_moved(machine, situation, kind):
     return target, tuple([_together(recipe, effects, many) for recipe in fills])
 
 
+def ways_to_effects(machine):
+    """Returns a dict with all situations that words lead to, in the order of the first words that do so.
+
+    With each stands what leads there by this word: another situation and a kind, None for the first situation.
+    """
+    start = effect_start(machine)
+    known = {start: None}
+    level = [start]
+    while level:
+        found = []
+        for situation in level:
+            for kind in range(len(machine[1][0])):
+                later = effect_moved(machine, situation, kind)
+                if later is not None and later not in known:
+                    known[later] = (situation, kind)
+                    found.append(later)
+        level = found
+    return known
+
+
 def is_accepted(machine, form, situation):
     """Tells whether a text ends here that the form accepts."""
     state, effects = situation

@@ -1,8 +1,8 @@
 """Forms: small machines that read texts and accept some of them."""
 
+from fewtests.checks import ascends, is_index, is_tuple_of
 from fewtests.errors import InvalidForm
 from fewtests.shadows import ALPHABET, power_of
-from fewtests.writers import is_index
 
 MOST_GROUPS = 3
 MOST_FORM_STATES = 4
@@ -14,7 +14,7 @@ def require_form(value):
     if not _is_frame(value):
         raise InvalidForm(None)
     groups, rows, good = value
-    if not _are_groups(groups):
+    if not are_groups(groups):
         raise InvalidForm(("groups",))
     for state, row in enumerate(rows):
         if not _is_row(row, len(groups), len(rows)):
@@ -52,6 +52,14 @@ def form_fits(writer, form):
     return power_of(many, many * len(writer[0])) <= MOST_EFFECTS
 
 
+def are_groups(groups):
+    """Tells whether the tuple is one of groups."""
+    if len(groups) > MOST_GROUPS or not all([_is_group(group) for group in groups]):
+        return False
+    letters = "".join(groups)
+    return len(set(letters)) == len(letters)
+
+
 def _place_of(groups, letter):
     for place, group in enumerate(groups):
         if letter in group:
@@ -60,33 +68,22 @@ def _place_of(groups, letter):
 
 
 def _is_frame(value):
-    if not isinstance(value, tuple) or len(value) != 3:
+    if not is_tuple_of(value, 3):
         return False
     return all([isinstance(part, tuple) for part in value]) and 1 <= len(value[1]) <= MOST_FORM_STATES
-
-
-def _are_groups(groups):
-    if len(groups) > MOST_GROUPS or not all([_is_group(group) for group in groups]):
-        return False
-    letters = "".join(groups)
-    return len(set(letters)) == len(letters)
 
 
 def _is_group(value):
     if not isinstance(value, str) or value == "" or len(value) > len(ALPHABET):
         return False
-    return all([letter in ALPHABET for letter in value]) and _ascends(value)
+    return all([letter in ALPHABET for letter in value]) and ascends(value)
 
 
 def _is_row(row, groups, states):
-    if not isinstance(row, tuple) or len(row) != groups + 1:
+    if not is_tuple_of(row, groups + 1):
         return False
     return all([is_index(state, states) for state in row])
 
 
 def _are_good(good, states):
-    return all([is_index(state, states) for state in good]) and _ascends(good)
-
-
-def _ascends(values):
-    return all([value < later for value, later in zip(values, values[1:])])
+    return all([is_index(state, states) for state in good]) and ascends(good)

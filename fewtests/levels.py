@@ -8,9 +8,11 @@ from fewtests.spans import no_span, span_at, taken
 from fewtests.walks import counts, joint_moved, joint_shadow, joint_start, pair_of
 
 
-def first_level(first, second):
-    """Returns a pair: the list of kept words without kinds, with their joint situations, and the spans by pairs."""
-    joint = joint_start(first, second)
+def first_level(joint):
+    """Returns a pair: the list of kept words without kinds, with their joint situations, and the spans by pairs.
+
+    Words are read from this joint situation on.
+    """
     _, span = taken(no_span(), joint_shadow(joint))
     return [((), joint)], {pair_of(joint): span}
 
@@ -33,7 +35,7 @@ def next_level(first, second, inside, level, spans):
 def kept_words(first, second, inside):
     """Returns all the kept words, in their order."""
     words = []
-    level, spans = first_level(first, second)
+    level, spans = first_level(joint_start(first, second))
     while level:
         words = words + [word for word, _ in level]
         level, spans = next_level(first, second, inside, level, spans)

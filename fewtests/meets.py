@@ -1,29 +1,17 @@
 """Meets: words that are written as a text of some form, or as just one short text."""
 
-from fewtests.contents import ends_as, fruitful, in_rows, place_moved, place_start, ways_of
-from fewtests.effects import effect_moved, effect_start, effect_writer, is_accepted
+from fewtests.contents import counts_of, ends_as, place_moved, place_start, ways_of
+from fewtests.effects import effect_writer, is_accepted, ways_to_effects
 from fewtests.forms import opposite
 
 
 def first_accepted(writer, form):
     """Returns the first word that is written with a text that the form accepts, or None."""
     machine = effect_writer(writer, form)
-    start = effect_start(machine)
-    # What leads here: another situation and a kind. A situation is met by its first word first.
-    known = {start: None}
-    level = [start]
-    while level:
-        for situation in level:
-            if is_accepted(machine, form, situation):
-                return _word_to(known, situation)
-        found = []
-        for situation in level:
-            for kind in range(len(writer[1][0])):
-                later = effect_moved(machine, situation, kind)
-                if later is not None and later not in known:
-                    known[later] = (situation, kind)
-                    found.append(later)
-        level = found
+    known = ways_to_effects(machine)
+    for situation in known:
+        if is_accepted(machine, form, situation):
+            return _word_to(known, situation)
     return None
 
 
@@ -54,14 +42,8 @@ def words_for(writer, text, many):
 def how_many_for(writer, text):
     """Returns how many words are written as the text, or None if they have no end."""
     ways = ways_of(writer, text)
-    places = fruitful(writer, text, ways)
-    rows = in_rows(ways, places)
-    if rows is None:
-        return None
-    counts = {place: 0 for place in ways}
-    for place in rows:
-        counts[place] = int(ends_as(writer, text, place)) + sum([counts[later] for later in ways[place]])
-    return counts[place_start(writer, text)]
+    counts = counts_of(writer, text, ways)
+    return None if counts is None else counts[place_start(writer, text)]
 
 
 def _word_to(known, situation):

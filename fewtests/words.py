@@ -1,6 +1,6 @@
 """Words: their order, and whether any value is a word, or tests."""
 
-from fewtests.writers import is_index
+from fewtests.checks import ascends, is_index
 
 MOST_KINDS_IN_A_TEST = 300
 
@@ -27,4 +27,4 @@ def are_tests(value, kinds):
         return False
     if not all([is_word(word, kinds, MOST_KINDS_IN_A_TEST) for word in value]):
         return False
-    return all([place_of(word) < place_of(later) for word, later in zip(value, value[1:])])
+    return ascends([place_of(word) for word in value])

@@ -1,5 +1,6 @@
 """Writers: what they are made of, and how recipes are put together."""
 
+from fewtests.checks import is_index, is_tuple_of
 from fewtests.errors import InvalidWriter
 
 MOST_STATES = 12
@@ -34,7 +35,16 @@ def is_small(writer):
     begins, rules, _ = writer
     if len(rules) > SMALL_STATES or len(rules[0]) > SMALL_KINDS or len(begins) > SMALL_BUFFERS:
         return False
-    return all([many <= SMALL_LETTERS for many in _letters_at_places(writer)])
+    return most_letters(writer) <= SMALL_LETTERS
+
+
+def most_letters(writer):
+    """Returns how many letters stand at that place of the writer, a begin, an entry or an end, that has most."""
+    begins, rules, ends = writer
+    at_begins = [len(text) for text in begins]
+    at_entries = [letters_in(entry[1]) for row in rules for entry in row if entry is not None]
+    at_ends = [letters_in((end,)) for end in ends if end is not None]
+    return max(at_begins + at_entries + at_ends)
 
 
 def joined(*recipes):
@@ -49,10 +59,25 @@ def joined(*recipes):
     return tuple(parts)
 
 
-def is_index(value, many):
-    """Tells whether value is an integer from 0 to many - 1."""
-    # A bool is an int in Python, but no integer here.
-    return isinstance(value, int) and not isinstance(value, bool) and 0 <= value < many
+def require_small(value, kinds):
+    """Returns value if it is a small writer, with so many kinds unless these are None; else raises InvalidWriter."""
+    writer = require_writer(value)
+    if not is_small(writer) or kinds not in (None, len(writer[1][0])):
+        raise InvalidWriter(("small",))
+    return writer
+
+
+def fit_together(recipes, buffers):
+    """Tells whether these are recipes that can stand in one entry, or at one end."""
+    if not all([_is_recipe(recipe, buffers) for recipe in recipes]):
+        return False
+    used = [part for recipe in recipes for part in recipe if not isinstance(part, str)]
+    return len(set(used)) == len(used) and letters_in(recipes) <= MOST_LETTERS
+
+
+def letters_in(recipes):
+    """Returns how many letters the pieces of the recipes have together."""
+    return sum([len(part) for recipe in recipes for part in recipe if isinstance(part, str)])
 
 
 def is_text(value, most):
@@ -61,9 +86,7 @@ def is_text(value, most):
 
 
 def _is_frame(value):
-    if not isinstance(value, tuple) or len(value) != 3:
-        return False
-    if not all([isinstance(part, tuple) for part in value]):
+    if not is_tuple_of(value, 3) or not all([isinstance(part, tuple) for part in value]):
         return False
     _, rules, ends = value
     return 1 <= len(rules) <= MOST_STATES and len(ends) == len(rules)
@@ -85,23 +108,16 @@ def _is_row(row, rules, buffers):
 def _is_entry(entry, states, buffers):
     if entry is None:
         return True
-    if not isinstance(entry, tuple) or len(entry) != 2:
+    if not is_tuple_of(entry, 2):
         return False
     target, fills = entry
-    if not is_index(target, states) or not isinstance(fills, tuple) or len(fills) != buffers:
+    if not is_index(target, states) or not is_tuple_of(fills, buffers):
         return False
-    return _fit_together(fills, buffers)
+    return fit_together(fills, buffers)
 
 
 def _is_end(end, buffers):
-    return end is None or _fit_together((end,), buffers)
-
-
-def _fit_together(recipes, buffers):
-    if not all([_is_recipe(recipe, buffers) for recipe in recipes]):
-        return False
-    used = [part for recipe in recipes for part in recipe if not isinstance(part, str)]
-    return len(set(used)) == len(used) and _letters_in(recipes) <= MOST_LETTERS
+    return end is None or fit_together((end,), buffers)
 
 
 def _is_recipe(value, buffers):
@@ -114,15 +130,3 @@ def _is_recipe(value, buffers):
 
 def _is_piece(value):
     return is_text(value, MOST_LETTERS) and value != ""
-
-
-def _letters_in(recipes):
-    return sum([len(part) for recipe in recipes for part in recipe if isinstance(part, str)])
-
-
-def _letters_at_places(writer):
-    begins, rules, ends = writer
-    at_begins = [len(text) for text in begins]
-    at_entries = [_letters_in(entry[1]) for row in rules for entry in row if entry is not None]
-    at_ends = [_letters_in((end,)) for end in ends if end is not None]
-    return at_begins + at_entries + at_ends
