@@ -88,7 +88,8 @@ def in_rows(ways, places):
     found = [place for place in places if left[place] == 0]
     done = 0
     while done < len(found):
-        for place in before[found[done]]:
+        earlier = before[found[done]]
+        for place in earlier:
             left[place] = left[place] - 1
             if left[place] == 0:
                 found.append(place)

@@ -80,10 +80,10 @@ class UnknownKind(LookupError):
 
 
 class UnknownEntry(LookupError):
-    """There is no such place in a writer; index is that of the first wrong value."""
+    """There is no such place in a writer; index is the first of the values that there is not."""
 
     def __init__(self, index):
-        LookupError.__init__(self, f"there is no such entry, first wrong value: {index!r}")
+        LookupError.__init__(self, "there is no such entry")
         self.index = index
 
 

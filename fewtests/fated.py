@@ -61,11 +61,8 @@ def joints_along(first, second, word):
 def steps_along(first, second, word):
     """Returns the list of the steps between these joint states."""
     ones, twos = states_along(first, word), states_along(second, word)
-    entries = zip(entries_along(first, word), entries_along(second, word))
-    return [
-        ((ones[at], twos[at]), word[at], one[1], two[1])
-        for at, (one, two) in enumerate(list(entries))
-    ]
+    entries = list(zip(entries_along(first, word), entries_along(second, word)))
+    return [((ones[at], twos[at]), word[at], one[1], two[1]) for at, (one, two) in enumerate(entries)]
 
 
 def states_along(writer, word):

@@ -85,7 +85,8 @@ def reachable(writer, start):
     states = [start]
     done = 0
     while done < len(states):
-        for entry in writer[1][states[done]]:
+        row = writer[1][states[done]]
+        for entry in row:
             if entry is not None and entry[0] not in states:
                 states.append(entry[0])
         done = done + 1

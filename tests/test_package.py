@@ -77,6 +77,41 @@ INTERFACE = {
         "fates": ["writer", "word"],
         "worth": ["prices", "text"],
     },
+    "fewtests.surplus": {
+        "surplus": ["first", "second", "prices", "word"],
+        "greatest_surplus": ["first", "second", "prices"],
+        "is_bound": ["first", "second", "prices", "value", "n"],
+    },
+    "fewtests.exchange": {
+        "marked": ["writer", "word"],
+        "exchangeable": ["writer", "first", "second"],
+        "emptied": ["writer", "buffer"],
+        "needless": ["writer"],
+    },
+    "fewtests.pens": {
+        "Writer": ["value"],
+    },
+    "fewtests.claims": {
+        "require_claim": ["claim"],
+        "decide": ["claim"],
+    },
+    "fewtests.checker": {
+        "first_fault": ["certificate"],
+    },
+    "fewtests.presses": {
+        "Press": ["writer"],
+    },
+    "fewtests.desks": {
+        "Desk": ["kinds"],
+    },
+    "fewtests.texts": {
+        "format_writer": ["writer"],
+        "format_words": ["words"],
+        "format_form": ["form"],
+        "parse_writer": ["text"],
+        "parse_words": ["text"],
+        "parse_form": ["text"],
+    },
 }
 
 
