@@ -3,7 +3,7 @@
 from fewtests.checks import is_tuple_of
 from fewtests.papers import is_paper
 from fewtests.tablefaults import fault_by_tables
-from fewtests.testfaults import fault_by_tests
+from fewtests.wordfaults import fault_by_tests
 from fewtests.validity import is_claim
 
 

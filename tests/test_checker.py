@@ -436,6 +436,27 @@ class TablesTest(Checking):
         self.check(("broken", ("surplus", ONE, LONE, ONES, None), ("endless", ((), (0,), ()))), None)
         self.check(("broken", ("surplus", ONE, TWO, ONES, 7), ("endless", ((), (0,), ()))), ("weight",))
 
+    def test_surplus_with_each_fault_of_a_table(self):
+        walk = (("",), (((1, ((0, "a"),)),), ((0, ((0, "a"),)),)), ((0,), (0,)))
+        rows = ((0, (1,), 0, (1,), 0), (1, (1,), 0, (1,), 0))
+        pairs = ((0, 0), (1, 0))
+        for table, fault in (
+            ((pairs, rows), None), ((pairs[:1], rows[:1]), ("pair", 0, 0)), ((pairs, rows[:1]), ("end", 1)),
+            ((pairs, (rows[0], (1, (1,), 0, (1,), 5))), ("step", 1, 0)), ((pairs[1:], rows[1:]), ("paper",)),
+        ):
+            self.check(("shown", ("surplus", walk, LONE, ONES, 0), ((0,), table)), fault)
+            self.check(("broken", ("surplus", walk, LONE, ONES, 1), ("less", table)), fault)
+            # What is wrong with the word comes first.
+            told = fault if fault == ("paper",) else ("sum",)
+            self.check(("shown", ("surplus", walk, LONE, ONES, 1), ((0,), table)), told)
+        # Of several faults the first one is told: pairs, then ends, then steps, then the bound.
+        self.check(("broken", ("surplus", walk, LONE, ONES, 0), ("less", (pairs[:1], ()))), ("pair", 0, 0))
+        self.check(("broken", ("surplus", walk, LONE, ONES, 0), ("less", (pairs, ((0, (1,), 0, (1,), 7),)))), ("end", 1))
+        self.check(
+            ("broken", ("surplus", walk, LONE, ONES, 0), ("less", (pairs, (rows[0], (1, (1,), 0, (1,), 7))))),
+            ("step", 1, 0),
+        )
+
     def test_surplus_of_no_words(self):
         claim = ("surplus", SILENT, ONE, ONES, None)
         self.check(("shown", claim, (((0, 0),), ())), None)

@@ -30,6 +30,7 @@ from fewtests.runs import behind
 from fewtests.sure import sure_text
 from fewtests.writers import is_small, require_writer
 from reference import Maker, ONE, THREE, TWO, doubled, exchanged
+from refusing import Refusing
 from test_claims import CLAIMS
 
 LONE = (("",), (((0, ((0, "a"),)),),), ((0,),))
@@ -60,17 +61,9 @@ def names_in(claim):
     return claim[1:3] if claim[0] in ("alike", "within", "first", "tests", "surplus", "endless") else claim[1:2]
 
 
-class Checking(unittest.TestCase):
-    def refused(self, desk, act, error, **parts):
-        """The call raises the error, with these parts, and changes nothing."""
-        before = state_of(desk)
-        with self.assertRaises(error) as caught:
-            act()
-        for name, value in parts.items():
-            found = getattr(caught.exception, name)
-            self.assertEqual(found, value)
-            self.assertIs(type(found), type(value))
-        self.assertEqual(state_of(desk), before)
+class Checking(Refusing):
+    def told_by(self, desk):
+        return state_of(desk)
 
     def desk(self, **writers):
         desk = Desk(1)
@@ -730,7 +723,7 @@ class DrawnTest(unittest.TestCase):
         if sort == "start":
             name = pick.choice("abc")
             return self.told(lambda: desk.start(name)), self.model_start(model, name)
-        number = pick.randint(0, max(0, model.started - 1))
+        number = pick.choice(list(model.presses) * 4 + [model.started, 0])
         if sort == "feed":
             kind = pick.randrange(model.kinds)
             return self.told(lambda: desk.feed(number, kind)), model.feed(number, kind)
@@ -797,7 +790,10 @@ class DrawnTest(unittest.TestCase):
         for _ in range(60):
             kinds = maker.random.randint(1, 2)
             desk, model = Desk(kinds), Model(kinds)
-            for _ in range(30):
+            for name in "ab":
+                writer = maker.writer(kinds=kinds, letters="a", most=1, refused=0.1)
+                desk[name] = model.writers[name] = writer
+            for _ in range(40):
                 told, known = self.deed(maker, desk, model)
                 self.assertEqual(told, known)
                 sort = known if isinstance(known, type) else known[0] if isinstance(known, tuple) else None

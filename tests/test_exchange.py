@@ -53,6 +53,10 @@ class MarkedTest(unittest.TestCase):
         one_more = (("",), (((0, (("a" * 120, 0, "b" * 120),)), (0, ((0, "c"),))),), ((0,),))
         self.assertEqual(marked(one_more, (0,))[1][0][2], one_more[1][0][0])
         self.assertEqual(marked(one_more, (1, 1))[1][0][2], (0, ((0, "cc"),)))
+        one_less = (("",), (((0, (("a" * 120, 0, "b" * 119),)), (0, ((0, "c"),))),), ((0,),))
+        self.assertEqual(marked(one_less, (0, 1))[1][0][2], (0, (("a" * 120, 0, "b" * 119 + "c"),)))
+        with self.assertRaises(LimitExceeded):
+            marked(one_less, (0, 1, 1))
         with self.assertRaises(LimitExceeded):
             marked(one_more, (0, 1))
         # What is dropped again on the way does not count.

@@ -286,6 +286,16 @@ class TogetherTest(unittest.TestCase):
         for one, two in ((12, 11), (5, 3)):
             first, second = rings(one, two)
             self.assertEqual((limit_of(lambda: first + second), limit_of(lambda: first | second)), (12, 12))
+        # One state more than there may be, when the first one has refused.
+        loop = Writer(ring(1))
+        rows = ring(12)[1]
+        for many, limit in ((11, None), (12, 12)):
+            chain = Writer((("",), rows[:many - 1] + ((None,),), ((0,),) * many))
+            self.assertEqual(len(chain + loop), many)
+            if limit is None:
+                self.assertEqual((len(chain | loop), len(loop | chain)), (12, 12))
+            else:
+                self.assertEqual((limit_of(lambda: chain | loop), limit_of(lambda: loop | chain)), (12, 12))
         three = Writer((("", "", ""), (((0, ((0,), (1,), (2,))),),), ((0,),)))
         two = Writer((("", ""), (((0, ((0,), (1,))),),), ((0,),)))
         self.assertEqual(len((two + ONES).value[0]), 3)
@@ -297,11 +307,15 @@ class TogetherTest(unittest.TestCase):
         self.assertEqual(limit_of(lambda: three + Writer(ring(3, "a" * 240))), 3)
         long = Writer((("",), (((0, (("a" * 121, 0),)),),), ((0,),)))
         less = Writer((("",), (((0, (("a" * 119, 0),)),),), ((0,),)))
-        self.assertEqual(len((long + less).value), 3)
+        more = Writer((("",), (((0, (("a" * 120, 0),)),),), ((0,),)))
+        self.assertEqual((long + less)[0, 0], (0, (("a" * 121, 0), ("a" * 119, 1))))
+        self.assertEqual((long | less)[0, 0], (0, (("a" * 121, 0), ("a" * 119, 1))))
+        self.assertEqual((limit_of(lambda: long + more), limit_of(lambda: more | long)), (240, 240))
         self.assertEqual(limit_of(lambda: long + long), 240)
         self.assertEqual(limit_of(lambda: long | long), 240)
         ends = Writer((("",), ((None,),), ((0, "a" * 121),)))
         self.assertEqual(limit_of(lambda: ends + ends), 240)
+        self.assertEqual((ends + (Writer((("",), ((None,),), ((0, "a" * 119),))))).value[2][0][3], "a" * 119)
         self.assertEqual((ends | ends).value[2], ((0, "a" * 121),))
 
 
@@ -427,6 +441,13 @@ class ShiftedTest(unittest.TestCase):
         with self.assertRaises(LimitExceeded) as caught:
             six << (0,) * 41
         self.assertEqual(caught.exception.limit, 240)
+        begun = Writer((("z",), six.value[1], six.value[2]))
+        with self.assertRaises(LimitExceeded):
+            begun << (0,) * 40
+        ended = Writer((("",), six.value[1], (("z", 0),)))
+        self.assertEqual(len((ended >> (0,) * 39).value[2][0]), 3)
+        with self.assertRaises(LimitExceeded):
+            ended >> (0,) * 40
         self.assertEqual((six >> (0,) * 40).value[2], ((0, "abcdef" * 40),))
         with self.assertRaises(LimitExceeded) as caught:
             six >> (0,) * 41

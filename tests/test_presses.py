@@ -19,6 +19,7 @@ from fewtests.presses import Press
 from fewtests.runs import behind, text_for
 from fewtests.sure import sure_text
 from reference import FORK, Maker, ONE, THREE, TWO, doubled, exchanged, first_of, words_up_to
+from refusing import Refusing
 
 HEAD = (("",), (((0, (("a", 0),)), (1, (("x", 0),))), (None, None)), (None, (0,)))
 # Kind 0 puts an a behind; kind 1 leads to where nothing can come, and is refused there.
@@ -46,17 +47,9 @@ def state_of(press):
     return press.sent, press.history(), press.writer(), press.possible(), press.rest(), len(press)
 
 
-class Checking(unittest.TestCase):
-    def refused(self, press, act, error, **parts):
-        """The call raises the error, with these parts, and changes nothing."""
-        before = state_of(press)
-        with self.assertRaises(error) as caught:
-            act()
-        for name, value in parts.items():
-            found = getattr(caught.exception, name)
-            self.assertEqual(found, value)
-            self.assertIs(type(found), type(value))
-        self.assertEqual(state_of(press), before)
+class Checking(Refusing):
+    def told_by(self, press):
+        return state_of(press)
 
     def check(self, press):
         """What the press tells is right for its word."""

@@ -1,4 +1,4 @@
-"""Test faults: what is wrong with a paper that shows or breaks a claim by test words."""
+"""Word faults: what is wrong with a paper that shows or breaks a claim by test words."""
 
 from fewtests.checks import first_true
 from fewtests.deciding import sure_by_tests
