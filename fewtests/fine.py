@@ -92,12 +92,22 @@ def pivots_of(rows, modulus):
     while best is not None:
         power, at, column = best
         index, row = left[at]
-        times = inverse_of(row[column] // power, modulus)
+        times = _inverse_of(row[column] // power, modulus)
         step = tuple([value * times % modulus for value in row])
         found.append((index, (column, power, step)))
         left = [(other, _cleared(values, column, power, step, modulus)) for other, values in left if other != index]
         best = _least_divisible(left, modulus)
     return found
+
+
+def _inverse_of(value, modulus):
+    # The inverse modulo a power of 29, its digits doubled each time: Euclid's algorithm takes long for long numbers.
+    known = inverse_of(value % BASE, BASE)
+    power = BASE
+    while power < modulus:
+        power = power * power
+        known = known * (2 - value % power * known) % power
+    return known % modulus
 
 
 def _least_divisible(left, modulus):
