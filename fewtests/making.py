@@ -121,7 +121,10 @@ def _piece(text):
 
 
 def _renumbered(entry, states):
-    return None if entry is None else (states.index(entry[0]), entry[1])
+    if entry is None:
+        return None
+    # No call of index: errors keep an attribute of that name, and << of a Writer runs this.
+    return [number for number, state in enumerate(states) if state == entry[0]][0], entry[1]
 
 
 def _turned_entry(entry):

@@ -60,7 +60,8 @@ def rest_of(row, steps, prime):
 
 def step_of(rest, prime):
     """Returns the step for a rest other than 0: a column, and a row that has 1 there."""
-    column = [value != 0 for value in rest].index(True)
+    # No call of index here and below: errors keep an attribute of that name, and == of Writers runs this.
+    column = [at for at, value in enumerate(rest) if value != 0][0]
     times = inverse_of(rest[column], prime)
     return column, tuple([value * times % prime for value in rest])
 
@@ -71,7 +72,7 @@ def inverted(matrix, prime):
     table = [list(row) + [int(i == k) for k in range(many)] for i, row in enumerate(matrix)]
     done = []
     for column in range(many):
-        at = [row[column] % prime != 0 for row in table].index(True)
+        at = [place for place, row in enumerate(table) if row[column] % prime != 0][0]
         times = inverse_of(table[at][column], prime)
         pivot = [value * times % prime for value in table[at]]
         table = [_cleared(row, pivot, column, prime) for row in table[:at] + table[at + 1:]]

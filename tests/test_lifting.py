@@ -3,7 +3,7 @@ import unittest
 from math import gcd, isqrt
 
 from fewtests.lifting import CHUNK, fraction_of, solution_of
-from fewtests.residues import EXPONENTS, inverted, prime_at
+from fewtests.residues import EXPONENTS, inverted, prime_at, step_of
 from reference import product
 
 
@@ -57,6 +57,34 @@ class FractionsTest(unittest.TestCase):
             under, overs = solution_of(matrix, inverted(matrix, prime), side, prime)
             self.assertGreaterEqual(under, 1)
             self.assertEqual([product(row, overs) for row in matrix], [under * value for value in side])
+
+
+class ResiduesTest(unittest.TestCase):
+    def test_a_step_begins_at_the_first_value_other_than_0(self):
+        self.assertEqual(step_of([3, 1, 5], 7), (0, (1, 5, 4)))
+        self.assertEqual(step_of([0, 3, 0, 5], 7), (1, (0, 1, 0, 4)))
+        self.assertEqual(step_of([0, 0, 6], 7), (2, (0, 0, 1)))
+        self.assertEqual(step_of([5, 5], 7), (0, (1, 1)))
+
+    def test_inverses_whose_rows_change_places(self):
+        # 7 and -14 are 0 here, though they are not 0 as integers.
+        self.assertEqual(inverted([[7, 1, 0], [0, -14, 1], [1, 0, 0]], 7), [[0, 0, 1], [1, 0, 0], [0, 1, 0]])
+        self.assertEqual(inverted([[0, 2], [3, 0]], 7), [[0, 5], [4, 0]])
+        self.assertEqual(inverted([[3]], 7), [[5]])
+        self.assertEqual(inverted([], 7), [])
+
+    def test_inverses_of_drawn_matrices(self):
+        maker = random.Random(63)
+        for _ in range(200):
+            many = maker.randint(1, 6)
+            # Upper and lower triangles with 1 between them, then rows and columns in any order: many zeros.
+            upper = [[int(i == k) or (k > i) * maker.choice((0, 0, 7, 3)) for k in range(many)] for i in range(many)]
+            lower = [[int(i == k) or (k < i) * maker.choice((0, 0, -7, 2)) for k in range(many)] for i in range(many)]
+            matrix = [[product(row, column) for column in zip(*lower)] for row in upper]
+            maker.shuffle(matrix)
+            found = inverted(matrix, 7)
+            both = [[product(row, column) % 7 for column in zip(*found)] for row in matrix]
+            self.assertEqual(both, [[int(i == k) for k in range(many)] for i in range(many)])
 
 
 class PrimesTest(unittest.TestCase):

@@ -132,6 +132,73 @@ class ReadmeTest(unittest.TestCase):
         self.assertEqual(found.failed, 0)
 
 
+class Calls:
+    """What functions and methods of the package call, by the names that stand in them: more than is run, never less."""
+
+    def __init__(self):
+        self.nodes = {}
+        self.names = {}
+        self.kept = set()
+        for path in sorted(PACKAGE.rglob("*.py")):
+            self.take(path.stem, ast.parse(path.read_text()))
+
+    def take(self, module, tree):
+        names = self.names[module] = {}
+        for node in tree.body:
+            if isinstance(node, ast.ImportFrom):
+                names.update({told.name: (node.module.split(".")[-1], told.name) for told in node.names})
+            if isinstance(node, ast.FunctionDef):
+                names[node.name] = (module, node.name)
+                self.nodes[module, node.name] = node
+            if isinstance(node, ast.ClassDef):
+                names[node.name] = (module, node.name + ".__init__")
+                methods = [method for method in node.body if isinstance(method, ast.FunctionDef)]
+                self.nodes.update({(module, node.name + "." + method.name): method for method in methods})
+        for node in ast.walk(tree):
+            if isinstance(node, ast.Attribute) and isinstance(node.ctx, ast.Store):
+                self.kept.add(node.attr)
+
+    def operators(self):
+        for (module, name), node in self.nodes.items():
+            plain = name.split(".")[-1]
+            property_ = "property" in [told.id for told in node.decorator_list if isinstance(told, ast.Name)]
+            if property_ or (plain.startswith("__") and plain not in ("__init__", "__iter__", "__call__")):
+                yield module, name
+
+    def run_by(self, start):
+        found = [start]
+        for module, name in found:
+            for node in ast.walk(self.nodes[module, name]):
+                for later in self.named(module, node):
+                    if later in self.nodes and later not in found:
+                        found.append(later)
+        return found
+
+    def named(self, module, node):
+        if isinstance(node, ast.Name) and node.id in self.names[module]:
+            told = self.names[module][node.id]
+            return [told, (told[0], told[1] + ".__init__")]
+        if isinstance(node, ast.Attribute):
+            return [key for key in self.nodes if key[1].endswith("." + node.attr)]
+        return []
+
+
+class OperatorsTest(unittest.TestCase):
+    def test_what_they_run_calls_nothing_that_has_the_name_of_an_attribute(self):
+        calls = Calls()
+        operators = list(calls.operators())
+        self.assertIn(("pens", "Writer.__eq__"), operators)
+        self.assertIn("index", calls.kept)
+        self.assertIn(("residues", "inverted"), calls.run_by(("pens", "Writer.__eq__")))
+        self.assertIn(("making", "_renumbered"), calls.run_by(("pens", "Writer.__lshift__")))
+        for operator in operators:
+            for module, name in calls.run_by(operator):
+                with self.subTest(operator=operator, module=module, name=name):
+                    for node in ast.walk(calls.nodes[module, name]):
+                        if isinstance(node, ast.Call) and isinstance(node.func, ast.Attribute):
+                            self.assertNotIn(node.func.attr, calls.kept, node.lineno)
+
+
 class FilesTest(unittest.TestCase):
     def for_each(self, check):
         for path in sorted(PACKAGE.rglob("*.py")):

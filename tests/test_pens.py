@@ -390,6 +390,27 @@ class ShiftedTest(unittest.TestCase):
         self.assertEqual((some << ()).value, (SOME[0], SOME[1][:2], SOME[2][:2]))
         self.assertEqual((ONES << (0, 0)).value, (("abab",), ONE[1], ONE[2]))
 
+    def test_states_are_numbered_in_the_order_of_their_first_words(self):
+        def entry(state, piece):
+            return state, ((0, piece),)
+
+        rows = (
+            (entry(3, "a"), None),
+            (entry(1, "b"), entry(0, "c")),
+            (None, None),
+            (entry(4, "d"), entry(1, "e")),
+            (entry(3, "f"), entry(1, "g")),
+        )
+        some = Writer((("",), rows, (("p",), ("q",), ("r",), None, ("t",))))
+        # The states of before are now, in order: 3, 4, 1, 0.
+        now = (
+            (entry(1, "d"), entry(2, "e")),
+            (entry(0, "f"), entry(2, "g")),
+            (entry(2, "b"), entry(3, "c")),
+            (entry(0, "a"), None),
+        )
+        self.assertEqual((some << (0,)).value, (("a",), now, (None, ("t",), ("q",), ("p",))))
+
     def test_a_refused_word(self):
         self.assertEqual((Writer(SOME) << (0, 0)).value, (("", ""), ((None, None),), (None,)))
         three = Writer((("a", "b", "c"), ((None, None, None, None),), (None,)))
